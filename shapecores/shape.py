@@ -5,15 +5,24 @@ FREES = 1
 PUSH = 2
 CORE = 3
 LEANING = 4
+LEAVE = 5
+BONE = 6
+FEWEST = 7
+LISTED = 8
+UNDO = 9
 
 MOST_CORNERS = 4
 LAST_CORNER = 9
 MOST_SIMPLICES = 60
+MOST_FOR_FEWEST = 13
 
 NOT_A_SIMPLEX = -1
 TOO_MANY = -2
 NOT_THERE = -3
+TOO_MANY_FOR_FEWEST = -5
 NOT_FREE = -6
+NOT_LEANING = -6
+NOTHING_TO_UNDO = -7
 
 
 # A simplex is kept as a tuple of its rising corners, a shape as a list of its simplices in order.
@@ -80,6 +89,10 @@ def without(simplices, gone):
     return [simplex for simplex in simplices if simplex not in gone]
 
 
+def without_corner(simplices, corner):
+    return [simplex for simplex in simplices if corner not in simplex]
+
+
 def corners_of(simplices):
     return [simplex[0] for simplex in simplices if len(simplex) == 1]
 
@@ -100,6 +113,98 @@ def lowest_leaned_on(tops, corners, corner):
     return None
 
 
+def leaning_pairs(simplices):
+    tops = tops_of(simplices)
+    corners = corners_of(simplices)
+    pairs = []
+    for corner in corners:
+        other = lowest_leaned_on(tops, corners, corner)
+        if other is not None:
+            pairs.append((corner, other))
+    return pairs
+
+
+# For the cuts a part of the shape is one whole number: its bit k is set if simplex k is left in it.
+
+
+def bits_above(simplices):
+    found = []
+    for simplex in simplices:
+        bits = 0
+        for k, other in enumerate(simplices):
+            if other != simplex and is_face(simplex, other):
+                bits = bits | (1 << k)
+        found.append(bits)
+    return found
+
+
+def steps_from(above, left):
+    steps = []
+    for k, bits in enumerate(above):
+        if left & (1 << k) != 0:
+            over = bits & left
+            if over == 0:
+                steps.append((left - (1 << k), 1))
+            elif over & (over - 1) == 0:
+                # Just one bit is set, so the simplex is free, and goes with that one.
+                steps.append((left - (1 << k) - over, 0))
+    return steps
+
+
+def fewest_cuts(simplices):
+    above = bits_above(simplices)
+    whole = (1 << len(simplices)) - 1
+    cuts = {whole: 0}
+    # Each step leads to a lesser number: at its turn a part has been reached in every way there is.
+    # No way has more cuts than there are simplices, so that number stands for a part not yet reached.
+    for left in range(whole, 0, -1):
+        if left in cuts:
+            for rest, cut in steps_from(above, left):
+                cuts[rest] = min(cuts.get(rest, len(simplices)), cuts[left] + cut)
+    return cuts[0]
+
+
+def boundary_row(simplices, simplex):
+    row = [0] * len(simplices)
+    if len(simplex) > 1:
+        for k in range(len(simplex)):
+            face = simplex[:k] + simplex[k + 1:]
+            row[simplices.index(face)] = 1 if k % 2 == 0 else -1
+    return row
+
+
+def first_not_zero(row):
+    for k, number in enumerate(row):
+        if number != 0:
+            return k
+    return None
+
+
+def cleared_at(place, row, first):
+    # Multiplied crosswise instead of divided, so that all numbers stay whole.
+    return [row[k] * first[place] - first[k] * row[place] for k in range(len(row))]
+
+
+def rank_of(rows):
+    rank = 0
+    left = rows
+    while len(left) > 0:
+        first = left[0]
+        left = left[1:]
+        place = first_not_zero(first)
+        if place is not None:
+            rank = rank + 1
+            left = [cleared_at(place, row, first) for row in left]
+    return rank
+
+
+def holes_in_all(simplices):
+    # In each dimension the holes are the simplices, less the rank of their boundaries (what is no cycle),
+    # less the rank of the boundaries from one dimension above: together each rank is taken off twice.
+    rows = [boundary_row(simplices, simplex) for simplex in simplices]
+    return len(simplices) - 2 * rank_of(rows)
+
+
 def told(simplices):
     numbers = [len(simplices)]
     for simplex in simplices:
@@ -111,6 +216,12 @@ def told(simplices):
 class Shape:
     def __init__(self):
         self.simplices = []
+        self.earlier = []
+
+    def change_to(self, simplices):
+        self.earlier.append(self.simplices)
+        self.simplices = simplices
+        return [len(simplices)]
 
     def become(self, lists):
         for corners in lists:
@@ -120,6 +231,7 @@ class Shape:
         if len(simplices) > MOST_SIMPLICES:
             return [TOO_MANY]
         self.simplices = simplices
+        self.earlier = []
         return [len(simplices)]
 
     def frees(self):
@@ -140,8 +252,7 @@ class Shape:
         above = others_above(self.simplices, simplex)
         if len(above) != 1:
             return [NOT_FREE]
-        self.simplices = without(self.simplices, (simplex, above[0]))
-        return [len(self.simplices)]
+        return self.change_to(without(self.simplices, (simplex, above[0])))
 
     def core(self):
         left = self.simplices
@@ -154,17 +265,41 @@ class Shape:
         return [times] + told(tops_of(left))
 
     def leaning(self):
-        tops = tops_of(self.simplices)
-        corners = corners_of(self.simplices)
-        found = []
-        for corner in corners:
-            other = lowest_leaned_on(tops, corners, corner)
-            if other is not None:
-                found.append((corner, other))
-        answer = [len(found)]
-        for pair in found:
+        pairs = leaning_pairs(self.simplices)
+        answer = [len(pairs)]
+        for pair in pairs:
             answer.extend(pair)
         return answer
+
+    def leave(self, corner):
+        corners = corners_of(self.simplices)
+        if corner not in corners:
+            return [NOT_THERE]
+        if lowest_leaned_on(tops_of(self.simplices), corners, corner) is None:
+            return [NOT_LEANING]
+        return self.change_to(without_corner(self.simplices, corner))
+
+    def bone(self):
+        left = self.simplices
+        pairs = leaning_pairs(left)
+        while len(pairs) > 0:
+            left = without_corner(left, pairs[0][0])
+            pairs = leaning_pairs(left)
+        return [len(corners_of(left))] + told(tops_of(left))
+
+    def fewest(self):
+        if len(self.simplices) > MOST_FOR_FEWEST:
+            return [TOO_MANY_FOR_FEWEST]
+        return [fewest_cuts(self.simplices), holes_in_all(self.simplices)]
+
+    def listed(self):
+        return told(self.simplices)
+
+    def undo(self):
+        if len(self.earlier) == 0:
+            return [NOTHING_TO_UNDO]
+        self.simplices = self.earlier.pop()
+        return [len(self.simplices)]
 
 
 class Reader:
@@ -208,6 +343,16 @@ def answer_of(shape, call, numbers, lists):
         return shape.core()
     if call == LEANING:
         return shape.leaning()
+    if call == LEAVE:
+        return shape.leave(numbers[0])
+    if call == BONE:
+        return shape.bone()
+    if call == FEWEST:
+        return shape.fewest()
+    if call == LISTED:
+        return shape.listed()
+    if call == UNDO:
+        return shape.undo()
     raise UnknownCall(f"no call has the number {call}")
 
 

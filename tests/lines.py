@@ -4,6 +4,10 @@ from shapecores.shape import answers
 FREES = [1, 0, 0]
 CORE = [3, 0, 0]
 LEANING = [4, 0, 0]
+BONE = [6, 0, 0]
+FEWEST = [7, 0, 0]
+LISTED = [8, 0, 0]
+UNDO = [9, 0, 0]
 
 LARGEST = 4294967295
 
@@ -27,6 +31,14 @@ def shape(simplices):
 
 def push(*corners):
     return [2, len(corners)] + list(corners) + [0]
+
+
+def leave(corner):
+    return [5, 1, corner, 0]
+
+
+def told(simplices):
+    return [len(simplices)] + [number for corners in simplices for number in [len(corners)] + list(corners)]
 
 
 def line(*calls):

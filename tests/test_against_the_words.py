@@ -1,14 +1,16 @@
 """Many shapes, each answered also by the words of the document taken one by one."""
+import fractions
 import itertools
 import random
 import unittest
 
-from lines import CORE, FREES, LEANING, ask, push, shape
+from lines import BONE, CORE, FEWEST, FREES, LEANING, LISTED, UNDO, ask, leave, push, shape
 
 
 class Words:
     def __init__(self):
-        self.simplices = set()
+        self.simplices = frozenset()
+        self.before = []
 
     def ordered(self, simplices):
         return sorted((sorted(simplex) for simplex in simplices), key=lambda rising: (len(rising), rising))
@@ -25,8 +27,23 @@ class Words:
                 faces.update(map(frozenset, itertools.combinations(corners, size)))
         if len(faces) > 60:
             return [-2]
-        self.simplices = faces
+        self.simplices = frozenset(faces)
+        self.before = []
         return [len(faces)]
+
+    def change(self, simplices):
+        self.before.append(self.simplices)
+        self.simplices = frozenset(simplices)
+        return [len(simplices)]
+
+    def told(self, simplices):
+        answer = [len(simplices)]
+        for rising in self.ordered(simplices):
+            answer += [len(rising)] + rising
+        return answer
+
+    def tops(self, simplices):
+        return [simplex for simplex in simplices if not any(simplex < other for other in simplices)]
 
     def into(self, simplices, simplex):
         others = [other for other in simplices if simplex < other]
@@ -50,8 +67,7 @@ class Words:
             return [-3]
         if simplex not in self.free(self.simplices):
             return [-6]
-        self.simplices = self.simplices - {simplex, self.into(self.simplices, simplex)}
-        return [len(self.simplices)]
+        return self.change(self.simplices - {simplex, self.into(self.simplices, simplex)})
 
     def core(self):
         left = set(self.simplices)
@@ -60,33 +76,97 @@ class Words:
             first = self.free(left)[0]
             left -= {first, self.into(left, first)}
             times += 1
-        tops = [simplex for simplex in left if not any(simplex < other for other in left)]
-        answer = [times, len(tops)]
-        for rising in self.ordered(tops):
-            answer += [len(rising)] + rising
-        return answer
+        return [times] + self.told(self.tops(left))
 
-    def leans(self, corner, other):
+    def corners(self, simplices):
+        return sorted(corner for simplex in simplices if len(simplex) == 1 for corner in simplex)
+
+    def leans(self, simplices, corner, other):
         return all(
-            any(simplex <= both and other in both for both in self.simplices)
-            for simplex in self.simplices if corner in simplex
+            any(simplex <= both and other in both for both in simplices)
+            for simplex in simplices if corner in simplex
         )
 
-    def leaning(self):
-        corners = sorted(corner for simplex in self.simplices if len(simplex) == 1 for corner in simplex)
-        answer = [0]
+    def leaning_pairs(self, simplices):
+        corners = self.corners(simplices)
+        pairs = []
         for corner in corners:
-            leaned_on = [other for other in corners if other != corner and self.leans(corner, other)]
+            leaned_on = [other for other in corners if other != corner and self.leans(simplices, corner, other)]
             if leaned_on:
-                answer[0] += 1
-                answer += [corner, leaned_on[0]]
-        return answer
+                pairs.append((corner, leaned_on[0]))
+        return pairs
+
+    def leaning(self):
+        pairs = self.leaning_pairs(self.simplices)
+        return [len(pairs)] + [corner for pair in pairs for corner in pair]
+
+    def left_out(self, simplices, corner):
+        return frozenset(simplex for simplex in simplices if corner not in simplex)
+
+    def leave(self, corner):
+        if frozenset([corner]) not in self.simplices:
+            return [-3]
+        if corner not in [first for first, lowest in self.leaning_pairs(self.simplices)]:
+            return [-6]
+        return self.change(self.left_out(self.simplices, corner))
+
+    def bone(self):
+        left = self.simplices
+        while self.leaning_pairs(left):
+            left = self.left_out(left, self.leaning_pairs(left)[0][0])
+        return [len(self.corners(left))] + self.told(self.tops(left))
+
+    def fewest(self):
+        if len(self.simplices) > 13:
+            return [-5]
+        return [self.cuts(self.simplices, {}), sum(self.holes(self.simplices, dimension) for dimension in range(4))]
+
+    def cuts(self, simplices, known):
+        if not simplices:
+            return 0
+        if simplices not in known:
+            ways = [1 + self.cuts(simplices - {top}, known) for top in self.tops(simplices)]
+            for simplex in self.free(simplices):
+                ways.append(self.cuts(simplices - {simplex, self.into(simplices, simplex)}, known))
+            known[simplices] = min(ways)
+        return known[simplices]
+
+    def holes(self, simplices, dimension):
+        cells = [rising for rising in self.ordered(simplices) if len(rising) == dimension + 1]
+        return len(cells) - self.rank(simplices, dimension) - self.rank(simplices, dimension + 1)
+
+    def rank(self, simplices, dimension):
+        if dimension == 0:
+            return 0
+        columns = [rising for rising in self.ordered(simplices) if len(rising) == dimension]
+        found = []
+        for cell in self.ordered(simplices):
+            if len(cell) == dimension + 1:
+                row = [fractions.Fraction(0)] * len(columns)
+                for place in range(len(cell)):
+                    row[columns.index(cell[:place] + cell[place + 1:])] = fractions.Fraction((-1) ** place)
+                for lead, other in found:
+                    row = [mine - row[lead] * its for mine, its in zip(row, other)]
+                leads = [place for place, number in enumerate(row) if number]
+                if leads:
+                    found.append((leads[0], [number / row[leads[0]] for number in row]))
+        return len(found)
+
+    def listed(self):
+        return self.told(self.simplices)
+
+    def undo(self):
+        if not self.before:
+            return [-7]
+        self.simplices = self.before.pop()
+        return [len(self.simplices)]
 
 
 def some_simplices(chance):
     corners = chance.sample(range(10), chance.randint(2, 10))
     sizes = chance.choice([[1, 2], [2], [2, 3], [3], [3, 4], [4], [1, 2, 3, 4]])
-    simplices = [chance.sample(corners, min(chance.choice(sizes), len(corners))) for k in range(chance.randint(0, 12))]
+    most = chance.choice([2, 4, 12])
+    simplices = [chance.sample(corners, min(chance.choice(sizes), len(corners))) for k in range(chance.randint(0, most))]
     if chance.randint(0, 9) == 0:
         simplices.insert(chance.randint(0, len(simplices)), chance.choice([[], [0, 0], [10], [-1, 2], [0, 1, 2, 3, 4]]))
     return simplices
@@ -101,38 +181,51 @@ def some_corners(chance, words):
     return [chance.randint(-1, 10) for k in range(chance.randint(0, 5))]
 
 
+def some_corner(chance, words):
+    leaning = words.leaning_pairs(words.simplices)
+    if leaning and chance.randint(0, 3) > 0:
+        return chance.choice(leaning)[0]
+    return chance.choice([0, 1, 2, 3, 4, 5, 6, 7, 8, 9, 10, 4294967295])
+
+
 def shuffled(chance, simplex):
     return chance.sample(sorted(simplex), len(simplex))
 
 
 class Against(unittest.TestCase):
+    asking = {
+        "frees": FREES, "core": CORE, "leaning": LEANING, "bone": BONE, "fewest": FEWEST, "listed": LISTED,
+        "undo": UNDO,
+    }
+    names = ["shape"] + ["push", "leave"] * 5 + ["undo"] * 3 + ["frees", "core", "leaning", "bone", "fewest", "listed"]
+
+    def some_call(self, chance, words, name):
+        if name == "shape":
+            simplices = some_simplices(chance)
+            return shape(simplices), words.shape(simplices)
+        if name == "push":
+            corners = some_corners(chance, words)
+            return push(*corners), words.push(corners)
+        if name == "leave":
+            corner = some_corner(chance, words)
+            return leave(corner), words.leave(corner)
+        return self.asking[name], getattr(words, name)()
+
     def check_line(self, chance):
         words = Words()
         calls = []
         expected = []
         for k in range(chance.randint(1, 40)):
-            which = chance.randint(0, 11)
-            if which == 0 or k == 0:
-                simplices = some_simplices(chance)
-                calls.append(shape(simplices))
-                expected.append(words.shape(simplices))
-            elif which < 7:
-                corners = some_corners(chance, words)
-                calls.append(push(*corners))
-                expected.append(words.push(corners))
-            elif which < 9:
-                calls.append(FREES)
-                expected.append(words.frees())
-            elif which < 10:
-                calls.append(CORE)
-                expected.append(words.core())
-            else:
-                calls.append(LEANING)
-                expected.append(words.leaning())
+            name = "shape" if k == 0 and chance.randint(0, 9) > 0 else chance.choice(self.names)
+            if name == "fewest" and calls.count(FEWEST) == 4:
+                name = "listed"
+            call, answer = self.some_call(chance, words, name)
+            calls.append(call)
+            expected.append(answer)
         self.assertEqual(ask(*calls), expected)
 
     def test_many_lines(self):
-        for seed in range(300):
+        for seed in range(400):
             with self.subTest(seed=seed):
                 self.check_line(random.Random(seed))
 
@@ -143,8 +236,15 @@ class Against(unittest.TestCase):
             if not self.is_closed(told):
                 continue
             words = Words()
-            expected = [words.shape(told), words.frees(), words.core(), words.leaning()]
-            self.assertEqual(ask(shape(told), FREES, CORE, LEANING), expected)
+            expected = [words.shape(told)] + [getattr(words, name)() for name in self.asking]
+            self.assertEqual(ask(shape(told), *self.asking.values()), expected)
+            self.check_every_leave(told)
+
+    def check_every_leave(self, told):
+        for corner in range(11):
+            words = Words()
+            expected = [words.shape(told), words.leave(corner), words.listed(), words.undo(), words.listed()]
+            self.assertEqual(ask(shape(told), leave(corner), LISTED, UNDO, LISTED), expected)
 
     def is_closed(self, told):
         present = set(map(tuple, told))
